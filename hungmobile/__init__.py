@@ -1,0 +1,1 @@
+"""Mobiles: rods, hooks and the weights that make all rods level."""
