@@ -19,13 +19,21 @@ class Rod:
         self.middle = middle
         self.behind = behind
 
+    def at_left(self, weights):
+        """All that hangs at the left end."""
+        return sum(weights[self.first:self.middle])
+
+    def at_right(self, weights):
+        """All that hangs at the right end."""
+        return sum(weights[self.middle:self.behind])
+
     def left_pull(self, weights):
         """The left arm times all that hangs at the left end."""
-        return self.left * sum(weights[self.first:self.middle])
+        return self.left * self.at_left(weights)
 
     def right_pull(self, weights):
         """The right arm times all that hangs at the right end."""
-        return self.right * sum(weights[self.middle:self.behind])
+        return self.right * self.at_right(weights)
 
 
 class Mobile:
@@ -73,21 +81,89 @@ class Mobile:
 
     def least(self):
         """Answers the least weights together, and the least weights."""
-        weights = least_weights(self.rods, len(self.weights))
+        weights = self.balancing(1)
         return with_row(sum(weights), weights)
 
     def scale(self, times):
         """Hangs the least weights so many times; answers what hangs then together."""
-        weights = [times * weight for weight in least_weights(self.rods, len(self.weights))]
+        weights = self.balancing(times)
         if times == 0 or max(weights) > HEAVIEST:
             return [-1]
         self.weights = weights
         return [sum(weights)]
 
+    def up(self):
+        """Answers how many times the least weights make up what hangs, and these weights."""
+        times = times_of_all(self.weights, self.balancing(1))
+        if times == 0:
+            return [-6]
+        return with_row(times, self.balancing(times))
+
+    def mend(self):
+        """Hangs weights that balance with the fewest changed; answers how many are, and the weights."""
+        weights = self.balancing(times_of_most(self.weights, self.balancing(1)))
+        if max(weights) > HEAVIEST:
+            return [-1]
+        changed = [hook for hook, weight in enumerate(weights) if weight != self.weights[hook]]
+        self.weights = weights
+        return with_row(len(changed), weights)
+
+    def wants(self):
+        """Answers how many rods there are, and the shortest arms that make each level with what hangs."""
+        if 0 in self.weights:
+            return [-6]
+        shortest = []
+        for rod in self.rods:
+            left = rod.at_left(self.weights)
+            right = rod.at_right(self.weights)
+            shared = greatest_divisor(left, right)
+            shortest.extend([right // shared, left // shared])
+        return with_row(len(self.rods), shortest)
+
+    def ways(self, others, weights):
+        """Answers in how many ways the weights balance, and that way before which there are so many others."""
+        if len(weights) != len(self.weights) or min(weights) < 1 or max(weights) > HEAVIEST:
+            return [-1]
+        # All that balance are so many times the least weights: those that are
+        # as much together as these are the one way there can be.
+        way = self.balancing(sum(weights) // sum(self.balancing(1)))
+        if sorted(way) != sorted(weights):
+            return with_row(0, [])
+        return with_row(1, way if others == 0 else [])
+
+    def missing(self, hook):
+        """Answers what has to hang at the hook so that it balances with what hangs at the others."""
+        if hook >= len(self.weights):
+            return [-2]
+        least = self.balancing(1)
+        # What hangs at the hook itself counts for nothing.
+        rest = list(self.weights)
+        rest[hook] = 0
+        times = times_of_all(rest, least)
+        if times == 0:
+            return [-6]
+        if rest.count(0) > 1:
+            return [-4]
+        return [times * least[hook]]
+
+    def state(self):
+        """Answers how many rods there are, the mobile's numbers, and what hangs."""
+        shape = shape_told(self.rods, len(self.weights))
+        return with_row(len(self.rods), shape) + as_row(self.weights)
+
+    def balancing(self, times):
+        """The least weights so many times, by hooks."""
+        return [times * weight for weight in least_weights(self.rods, len(self.weights))]
+
 
 def with_row(number, row):
     """An answer of a number and a list, behind how many numbers the list has."""
-    return [number, len(row)] + row
+    return [number] + as_row(row)
+
+
+def as_row(row):
+    """A list of its own: the row behind how many numbers it has."""
+    return [len(row)] + row
 
 
 def may_be_arms(left, right):
@@ -137,6 +213,18 @@ def rods_told(shape):
     return list(reversed(rods))
 
 
+def shape_told(rods, hooks):
+    """The numbers that tell the mobile with these rods and so many hooks."""
+    shape = []
+    told = 0
+    for rod in rods:
+        # The hooks that are told ahead of a rod are just those to its left.
+        shape.extend([0] * (rod.first - told))
+        told = rod.first
+        shape.extend([rod.left, rod.right])
+    return shape + [0] * (hooks - told)
+
+
 def least_weights(rods, hooks):
     """The least weights that make all the rods level, by hooks."""
     weights = [1] * hooks
@@ -151,6 +239,29 @@ def least_weights(rods, hooks):
         for hook in range(rod.middle, rod.behind):
             weights[hook] *= left // shared
     return weights
+
+
+def times_hung(weights, least):
+    """Of each hook at which something hangs, how many times its least weight: 0 if no whole number of times."""
+    return [weight // one if weight % one == 0 else 0 for weight, one in zip(weights, least) if weight > 0]
+
+
+def times_of_all(weights, least):
+    """How many times its least weight is all that hangs; 1 if nothing hangs; 0 if there's no such number."""
+    hung = times_hung(weights, least)
+    if len(hung) == 0:
+        return 1
+    return hung[0] if min(hung) == max(hung) else 0
+
+
+def times_of_most(weights, least):
+    """How many times the least weights are what hangs at the most hooks, the least of several; 1 if there's none."""
+    hung = times_hung(weights, least)
+    best = 1
+    for times in sorted(hung):
+        if times > 0 and hung.count(times) > hung.count(best):
+            best = times
+    return best
 
 
 def greatest_divisor(one, other):

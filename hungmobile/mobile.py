@@ -54,10 +54,28 @@ def answer_next(mobile, reader):
         left = reader.take()
         right = reader.take()
         return mobile.arms(rod, left, right)
+    if call == 5:
+        return mobile.scale(reader.take())
+    if call == 9:
+        others = reader.take()
+        return mobile.ways(others, reader.take_row())
+    if call == 10:
+        return mobile.missing(reader.take())
+    return answer_bare(mobile, call)
+
+
+def answer_bare(mobile, call):
+    """What the mobile answers to a call with which nothing is handed over."""
     if call == 3:
         return mobile.pulls()
     if call == 4:
         return mobile.least()
-    if call == 5:
-        return mobile.scale(reader.take())
+    if call == 6:
+        return mobile.up()
+    if call == 7:
+        return mobile.mend()
+    if call == 8:
+        return mobile.wants()
+    if call == 11:
+        return mobile.state()
     raise KeyError(f"there is no call {call}")

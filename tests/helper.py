@@ -5,7 +5,7 @@ recursion and by fractions. It is only for what can't be counted by hand.
 """
 
 from fractions import Fraction
-from itertools import cycle
+from itertools import cycle, permutations
 from math import gcd, lcm
 
 from hungmobile.mobile import answers
@@ -35,6 +35,30 @@ def least():
 
 def scale(times):
     return [5, times]
+
+
+def up():
+    return [6]
+
+
+def mend():
+    return [7]
+
+
+def wants():
+    return [8]
+
+
+def ways(others, weights):
+    return [9, others, len(weights)] + weights
+
+
+def missing(hook):
+    return [10, hook]
+
+
+def state():
+    return [11]
 
 
 def hang_all(weights):
@@ -76,6 +100,11 @@ def reach_after(calls, hooks):
     """For each hook what 1 hung there alone pulls at each rod: its arm, below 0 on the right, or 0."""
     return [last(*calls, *hang_all([1 if other == hook else 0 for other in range(hooks)]), pulls())[2:]
             for hook in range(hooks)]
+
+
+def state_of(shape, weights):
+    """What state answers of a mobile of these numbers, at which these weights hang."""
+    return [len(weights) - 1, len(shape)] + shape + [len(weights)] + weights
 
 
 def tree_of(shape):
@@ -121,6 +150,68 @@ def reckoned_least(shape):
     weights = [int(part * whole) for part in parts]
     common = gcd(*weights)
     return [weight // common for weight in weights]
+
+
+def reckoned_up(shape, weights):
+    """What up answers, from the shares of the least weights that hang."""
+    least_ones = reckoned_least(shape)
+    shares = {Fraction(weight, one) for weight, one in zip(weights, least_ones) if weight} or {Fraction(1)}
+    times = min(shares)
+    if len(shares) > 1 or times.denominator > 1:
+        return [-6]
+    return [int(times), len(least_ones)] + [int(times) * one for one in least_ones]
+
+
+def reckoned_mend(shape, weights):
+    """What mend answers, by trying each number of times that any hook asks for."""
+    least_ones = reckoned_least(shape)
+    tried = []
+    for times in {1} | {weight // one for weight, one in zip(weights, least_ones) if weight >= one}:
+        hung = [times * one for one in least_ones]
+        changed = len([hook for hook, weight in enumerate(weights) if weight != hung[hook]])
+        tried.append((changed, times, hung))
+    changed, times, hung = min(tried)
+    return [-1] if max(hung) > 1000000 else [changed, len(hung)] + hung
+
+
+def reckoned_wants(shape, weights):
+    """What wants answers, by walking the tree."""
+    def walk(tree, hung):
+        if tree is None:
+            return []
+        split = hooks_of(tree[2])
+        share = Fraction(sum(hung[split:]), sum(hung[:split]))
+        return [share.numerator, share.denominator] + walk(tree[2], hung[:split]) + walk(tree[3], hung[split:])
+    if 0 in weights:
+        return [-6]
+    wanted = walk(tree_of(shape), weights)
+    return [len(wanted) // 2, len(wanted)] + wanted
+
+
+def reckoned_ways(shape, others, weights):
+    """What ways answers, by hanging the weights in every order."""
+    hooks = hooks_of(tree_of(shape))
+    if len(weights) != hooks or not all(1 <= weight <= 1000000 for weight in weights):
+        return [-1]
+    found = [list(way) for way in sorted(set(permutations(weights))) if not any(reckoned_pulls(shape, way))]
+    way = found[others] if others < len(found) else []
+    return [len(found), len(way)] + way
+
+
+def reckoned_missing(shape, hook, weights):
+    """What missing answers, from the shares of the least weights that hang at the others."""
+    least_ones = reckoned_least(shape)
+    if hook >= len(weights):
+        return [-2]
+    if len(weights) == 1:
+        return [1]
+    others = [(weight, one) for other, (weight, one) in enumerate(zip(weights, least_ones)) if other != hook]
+    shares = {Fraction(weight, one) for weight, one in others if weight}
+    if len(shares) > 1 or any(share.denominator > 1 for share in shares):
+        return [-6]
+    if any(weight == 0 for weight, one in others):
+        return [-4]
+    return [int(min(shares)) * least_ones[hook]]
 
 
 def forms(hooks):
